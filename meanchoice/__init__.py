@@ -1,0 +1,1 @@
+"""Meanchoice: choices made one by one by their mean."""
