@@ -72,6 +72,12 @@ def need_sheet(thing):
         raise NoSheet("this is no sheet")
 
 
+def need_begun(sheet, thing):
+    """Refuse what is no begun choosing of the sheet."""
+    if not are_first_ways(sheet[0], thing):
+        raise NoChoosing("this is no begun choosing of the sheet")
+
+
 def need_choosing(sheet, thing):
     """Refuse what is no choosing of the sheet."""
     if not are_all_ways(sheet[0], thing):
@@ -111,8 +117,13 @@ def is_kept(sheet, number, choosing):
     return keeps(choosing, sheet[1][number])
 
 
+def weight_kept(wishes, choosing):
+    """The sum of the weights of those wishes that the choosing keeps, all known to be of one sheet."""
+    return sum([wish[1] for wish in wishes if keeps(choosing, wish)])
+
+
 def worth(sheet, choosing):
     """The sum of the weights of the wishes that the choosing keeps."""
     need_sheet(sheet)
     need_choosing(sheet, choosing)
-    return sum([wish[1] for wish in sheet[1] if keeps(choosing, wish)])
+    return weight_kept(sheet[1], choosing)

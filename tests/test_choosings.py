@@ -1,28 +1,10 @@
 """Begun choosings and choosings, kept wishes, worths, and the order of refusals."""
 
-import copy
-import itertools
 import unittest
 
 from meanchoice.errors import NoChoosing, NoNumber, NoSheet
 from meanchoice.sheets import is_begun, is_choosing, is_kept, worth
-from things import BIG, ODD_THINGS, OTHER_THINGS
-
-SHEET = (
-    (2, 1, 3),
-    (
-        ("all", 1, ((0, (1,)), (2, (0, 2)))),
-        ("some", 10, ((0, (0,)), (2, (2,)))),
-        ("all", 40, ((1, (0,)),)),
-    ),
-)
-
-EMPTY = ((), ())
-
-NO_SHEETS = OTHER_THINGS + [
-    (), (SHEET,), list(SHEET), (list(SHEET[0]), SHEET[1]), (SHEET[0], list(SHEET[1])), ((2, 5), ()), ((True,), ()),
-    ((2,), (("all", 100, ()),)), ((2,) * 11, ()),
-]
+from things import BIG, EMPTY, NO_SHEETS, ODD_THINGS, OTHER_THINGS, SHEET, Unchanged, all_choosings
 
 # None of these is a choosing of SHEET, begun or whole.
 NOT_BEGUN = OTHER_THINGS + [
@@ -31,25 +13,6 @@ NOT_BEGUN = OTHER_THINGS + [
 ]
 
 NO_NUMBERS = ODD_THINGS + [3, 4, -2, -3, "2", (), (0,), (1,)]
-
-
-def all_choosings(sheet):
-    return list(itertools.product(*[range(many) for many in sheet[0]]))
-
-
-class Unchanged(unittest.TestCase):
-    def told(self, function, *things):
-        """What the function tells, and that the things are as before."""
-        before = copy.deepcopy(things)
-        try:
-            return function(*things)
-        finally:
-            self.assertEqual(repr(things), repr(before))
-
-    def refused(self, refusal, function, *things):
-        with self.assertRaises(refusal) as caught:
-            self.told(function, *things)
-        self.assertIs(type(caught.exception), refusal)
 
 
 class Choosings(Unchanged):

@@ -1,4 +1,11 @@
-"""What several tests hand in: odd things, and things with one spot changed."""
+"""What several tests need: odd things, things with one spot changed, drawn things, and checks."""
+
+import copy
+import itertools
+import time
+import unittest
+from contextlib import contextmanager
+from fractions import Fraction
 
 BIG = 10 ** 19 + 7
 
@@ -11,6 +18,27 @@ ODD_THINGS = [
 # No sheet, and no choosing of anything.
 OTHER_THINGS = ODD_THINGS + [
     0, 1, 7, "all", (None,), ((),), ((((((((),),),),),),),), ("",), (True,), ({},), ([],), (-1,), (BIG,),
+]
+
+SHEET = (
+    (2, 1, 3),
+    (
+        ("all", 1, ((0, (1,)), (2, (0, 2)))),
+        ("some", 10, ((0, (0,)), (2, (2,)))),
+        ("all", 40, ((1, (0,)),)),
+    ),
+)
+
+EMPTY = ((), ())
+
+NO_SHEETS = OTHER_THINGS + [
+    (), (((2,), ()),), [(2,), ()], ([2], ()), ((2,), []), ((2, 5), ()), ((True,), ()), ((2,), (("all", 100, ()),)),
+    ((2,) * 11, ()), ((2, 2), ((0, 1, 5),)), (2, ()), (2, ((0, 1, 5),)),
+]
+
+NO_WEBS = OTHER_THINGS + [
+    (), (2,), (2, ((0, 1, 5),), ()), [2, ()], (2, [(0, 1, 5)]), (2, ([0, 1, 5],)), (11, ()), (-1, ()), (True, ()),
+    (2, ((0, 1, 0),)), (2, ((0, 1, 100),)), (2, ((1, 0, 5),)), (2, ((0, 2, 5),)), (2, ((0, 1, 5), (0, 1, 6))), ((2,), ()),
 ]
 
 
@@ -36,3 +64,102 @@ def with_spot(thing, path, new):
         return new
     at = path[0]
     return thing[:at] + (with_spot(thing[at], path[1:], new),) + thing[at + 1:]
+
+
+def all_choosings(sheet):
+    return list(itertools.product(*[range(many) for many in sheet[0]]))
+
+
+def pair(fraction):
+    """A Fraction as the program tells it."""
+    return (fraction.numerator, fraction.denominator)
+
+
+def mean_of_all(numbers):
+    """The mean of some numbers, as the program tells it."""
+    numbers = list(numbers)
+    return pair(Fraction(sum(numbers), len(numbers)))
+
+
+class Draw:
+    """Numbers that look drawn but are the same on each run."""
+
+    def __init__(self, seed):
+        self.state = seed
+
+    def below(self, many):
+        self.state = (self.state * 6364136223846793005 + 1442695040888963407) % 2 ** 64
+        return (self.state >> 33) % many
+
+    def within(self, low, high):
+        return low + self.below(high - low + 1)
+
+    def some(self, many):
+        """Some of the numbers below, rising, perhaps none, perhaps all."""
+        return tuple(number for number in range(many) if self.below(2))
+
+    def shuffled(self, things):
+        left, order = list(things), []
+        while left:
+            order.append(left.pop(self.below(len(left))))
+        return tuple(order)
+
+
+def drawn_wish(draw, ways, most_parts=10):
+    places = [place for place in range(len(ways)) if draw.below(2)][:most_parts]
+    parts = tuple((place, draw.some(ways[place])) for place in places)
+    return (("all", "some")[draw.below(2)], draw.within(0, 99), parts)
+
+
+def drawn_sheet(draw, most_places=4, most_wishes=6):
+    ways = tuple(draw.within(1, 4) for place in range(draw.within(0, most_places)))
+    return (ways, tuple(drawn_wish(draw, ways) for wish in range(draw.within(0, most_wishes))))
+
+
+def drawn_ties(draw, n, most_weight=99):
+    pairs = [one for one in itertools.combinations(range(n), 2) if draw.below(3)]
+    return tuple((i, j, draw.within(1, most_weight)) for i, j in pairs)
+
+
+def drawn_web(draw, most_places=6, most_weight=99):
+    n = draw.within(0, most_places)
+    return (n, drawn_ties(draw, n, most_weight))
+
+
+def full_web(n, weight=1):
+    """The web with all ties."""
+    return (n, tuple((i, j, weight) for i, j in itertools.combinations(range(n), 2)))
+
+
+class Unchanged(unittest.TestCase):
+    def told(self, function, *things):
+        """What the function tells, and that the things are as before."""
+        before = copy.deepcopy(things)
+        try:
+            return function(*things)
+        finally:
+            self.assertEqual(repr(things), repr(before))
+
+    def refused(self, refusal, function, *things):
+        with self.assertRaises(refusal, msg=repr(things)) as caught:
+            self.told(function, *things)
+        self.assertIs(type(caught.exception), refusal)
+
+    def check_fraction(self, fraction):
+        """That it is a fraction in lowest terms, of whole numbers."""
+        self.assertIs(type(fraction), tuple)
+        self.assertEqual([type(number) for number in fraction], [int, int])
+        self.assertGreaterEqual(fraction[1], 1)
+        self.assertEqual(fraction, pair(Fraction(*fraction)))
+
+    def check_numbers(self, numbers):
+        """That it is a tuple of whole numbers, truths being none."""
+        self.assertIs(type(numbers), tuple)
+        self.assertLessEqual({type(number) for number in numbers}, {int})
+
+    @contextmanager
+    def within_short(self, seconds=2):
+        """That what is done takes no more of the processor's time."""
+        begin = time.process_time()
+        yield
+        self.assertLess(time.process_time() - begin, seconds)
