@@ -1,6 +1,6 @@
 """Sheets (ways, wishes), their choosings, and what these are worth."""
 
-from meanchoice.errors import NoChoosing, NoNumber, NoSheet
+from meanchoice.errors import NoChoosing, NoNumber, NoSheet, NoWays
 from meanchoice.kinds import are_rising, are_rising_below, is_tuple_of, is_within
 
 MOST_PLACES = 10
@@ -64,6 +64,12 @@ def are_first_ways(ways, thing):
 def are_all_ways(ways, thing):
     """Whether the thing, anything, is a tuple of a way for each place."""
     return is_tuple_of(thing, len(ways)) and are_first_ways(ways, thing)
+
+
+def need_ways(thing):
+    """Refuse what is no ways of a sheet."""
+    if not are_ways(thing):
+        raise NoWays("these are no ways of a sheet")
 
 
 def need_sheet(thing):

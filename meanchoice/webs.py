@@ -39,6 +39,12 @@ def need_sides_number(thing):
         raise NoNumber("there are no so many sides")
 
 
+def ties_at(ties, place):
+    """Tuples (other end, weight) of the ties at the place, those to places ahead of it first."""
+    ahead = [(i, weight) for i, j, weight in ties if j == place]
+    return ahead + [(j, weight) for i, j, weight in ties if i == place]
+
+
 def side_wish(tie, k, side):
     """The wish that the ends of the tie are not both on this side of k."""
     i, j, weight = tie

@@ -100,7 +100,8 @@ class AreShares(Unchanged):
         for one in all_choosings(SHEET):
             for number in (1, 99):
                 shares = tuple(
-                    tuple(number if way == one[place] else 0 for way in range(many)) for place, many in enumerate(SHEET[0])
+                    tuple(number if way == one[place] else 0 for way in range(many))
+                    for place, many in enumerate(SHEET[0])
                 )
                 self.check(SHEET, shares, True)
 

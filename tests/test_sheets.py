@@ -155,7 +155,9 @@ class WrongThings(SheetTest):
         self.check((), False)
         self.check((ways, wishes, wishes), False)
         self.check((wishes, ways), False)
-        for wish in (("all", 1), ("all", ()), (1, ()), ("all",), (), ("all", 1, (), ()), (1, "all", ()), ("all", (), 1)):
+        for wish in (("all", 1), ("all", ()), (1, ()), ("all",), ()):
+            self.check_wish(wish, False)
+        for wish in (("all", 1, (), ()), (1, "all", ()), ("all", (), 1)):
             self.check_wish(wish, False)
         for part in ((0,), ((0,),), (), (0, (0,), (0,)), ((0,), 0), (0, 0)):
             self.check_wish(wish_of((part,)), False)

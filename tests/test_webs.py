@@ -7,7 +7,8 @@ from meanchoice.errors import NoNumber, NoWeb, TooMany
 from meanchoice.sheets import is_sheet, worth
 from meanchoice.webs import is_web, sheet_of
 from things import (
-    BIG, NO_WEBS, ODD_THINGS, OTHER_THINGS, Draw, Unchanged, all_choosings, at_spot, drawn_web, full_web, spots, with_spot,
+    BIG, NO_WEBS, ODD_THINGS, OTHER_THINGS, Draw, Unchanged, all_choosings, at_spot, drawn_web, full_web, spots,
+    with_spot,
 )
 
 # Noughts and ones stand at many spots, so truths would pass there for numbers.
