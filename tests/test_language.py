@@ -94,6 +94,42 @@ class Language(unittest.TestCase):
                 self.assertNotIn(name, known, path)
                 self.assertFalse(name.startswith("_") and not re.fullmatch(r"__[a-z]+__", name), (path, name))
 
+    def test_no_variable_has_the_name_of_an_import_or_a_class_of_its_file(self):
+        for path, tree in self.trees.items():
+            taken = {node.name for node in tree.body if isinstance(node, ast.ClassDef)}
+            for node in tree.body:
+                if isinstance(node, ast.ImportFrom):
+                    taken |= {imported.asname or imported.name for imported in node.names}
+            for node in ast.walk(tree):
+                if isinstance(node, ast.Name) and not isinstance(node.ctx, ast.Load):
+                    self.assertNotIn(node.id, taken, path)
+                elif isinstance(node, ast.arg):
+                    self.assertNotIn(node.arg, taken, path)
+
+    def test_no_file_imports_itself_through_others(self):
+        names = {path: {node.module.split(".")[1] for node in tree.body if isinstance(node, ast.ImportFrom)}
+                 for path, tree in self.trees.items()}
+        left = {path.stem: sources for path, sources in names.items()}
+        while left:
+            free = [name for name, sources in left.items() if not sources & set(left)]
+            self.assertTrue(free, left)
+            for name in free:
+                del left[name]
+
+    def test_every_import_is_used(self):
+        for path, tree in self.trees.items():
+            read = {node.id for node in ast.walk(tree) if isinstance(node, ast.Name)}
+            for node in tree.body:
+                if isinstance(node, ast.ImportFrom):
+                    for imported in node.names:
+                        self.assertIn(imported.asname or imported.name, read, path)
+
+    def test_powers_have_literal_exponents(self):
+        for path, node in self.nodes(ast.BinOp):
+            if isinstance(node.op, ast.Pow):
+                self.assertIsInstance(node.right, ast.Constant, path)
+                self.assertIn(node.right.value, range(65), path)
+
     def test_values(self):
         for path, node in self.nodes(ast.Constant):
             self.assertNotIsInstance(node.value, (float, complex), path)
