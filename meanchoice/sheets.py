@@ -1,12 +1,13 @@
 """Sheets (ways, wishes), their choosings, and what these are worth."""
 
-from meanchoice.errors import NoChoosing, NoNumber, NoSheet, NoWays
+from meanchoice.errors import NoChoosing, NoNumber, NoSheet, NoWays, NoWish
 from meanchoice.kinds import are_rising, are_rising_below, is_tuple_of, is_within
 
 MOST_PLACES = 10
 MOST_WAYS = 4
 MOST_WISHES = 16
 MOST_WEIGHT = 99
+KINDS = ("all", "some")
 
 
 def are_ways(thing):
@@ -36,7 +37,7 @@ def is_wish(ways, thing):
     if not is_tuple_of(thing, 3):
         return False
     kind, weight, parts = thing
-    return kind in ("all", "some") and is_within(weight, 0, MOST_WEIGHT) and are_parts(ways, parts)
+    return kind in KINDS and is_within(weight, 0, MOST_WEIGHT) and are_parts(ways, parts)
 
 
 def are_wishes(ways, thing):
@@ -70,6 +71,12 @@ def need_ways(thing):
     """Refuse what is no ways of a sheet."""
     if not are_ways(thing):
         raise NoWays("these are no ways of a sheet")
+
+
+def need_wish(ways, thing):
+    """Refuse what is no wish for these ways."""
+    if not is_wish(ways, thing):
+        raise NoWish("this is no wish for these ways")
 
 
 def need_sheet(thing):

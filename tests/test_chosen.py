@@ -8,7 +8,8 @@ from meanchoice.errors import NoChoosing, NoSheet, TooMany
 from meanchoice.means import mean
 from meanchoice.sheets import is_choosing, worth
 from things import (
-    EMPTY, NO_SHEETS, OTHER_THINGS, SHEET, Draw, Unchanged, all_choosings, drawn_sheet, drawn_wish, mean_of_all,
+    EMPTY, NO_SHEETS, OTHER_THINGS, SHEET, Draw, Unchanged, all_choosings, drawn_sheet, drawn_wish, great_sheet,
+    mean_of_all,
 )
 
 NO_CHOOSINGS = OTHER_THINGS + [
@@ -19,12 +20,6 @@ NO_CHOOSINGS = OTHER_THINGS + [
 def drawn_sheets(seed, many=40):
     draw = Draw(seed)
     return [SHEET, EMPTY] + [drawn_sheet(draw) for turn in range(many)]
-
-
-def great_sheet(seed):
-    draw = Draw(seed)
-    ways = (4,) * 10
-    return (ways, tuple(drawn_wish(draw, ways) for wish in range(16)))
 
 
 def chosen_by_all(sheet):

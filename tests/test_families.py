@@ -11,15 +11,11 @@ from meanchoice.families import best_of, family_mean, is_even, twos
 from meanchoice.means import mean
 from meanchoice.sheets import worth
 from things import (
-    BIG, EMPTY, NO_SHEETS, ODD_THINGS, OTHER_THINGS, SHEET, Draw, Unchanged, all_choosings, drawn_sheet, drawn_wish,
-    mean_of_all,
+    BIG, EMPTY, NO_SHEETS, NO_WAYS, ODD_THINGS, OTHER_THINGS, SHEET, Draw, Unchanged, all_choosings, drawn_choosing,
+    drawn_sheet, drawn_wish, mean_of_all,
 )
 
 WAYS = (2, 3, 2)
-
-NO_WAYS = OTHER_THINGS + [
-    (0,), (5,), (2, 5), (2,) * 11, [2, 3], (2, True), (2, None), (2, "3"), ((2, 3),), (2, [3]), "23",
-]
 
 # None of these is a choosing of WAYS, begun ones among them.
 NO_CHOOSINGS = OTHER_THINGS + [
@@ -41,10 +37,6 @@ def is_even_by_counts(ways, family, k):
         if len(counts) != prod(ways[place] for place in places) or len(set(counts.values())) != 1:
             return False
     return True
-
-
-def drawn_choosing(draw, ways):
-    return tuple(draw.below(many) for many in ways)
 
 
 # Eight choosings of four places of two ways, even by 3 and not by 4: those with an even sum.

@@ -24,6 +24,12 @@ BARRED_WORDS = re.compile(
     r"|namedtuple|NamedTuple|TypedDict|TYPE_CHECKING|abstractmethod)\b|dataclass|overload|contextmanager"
 )
 
+METHODS = set(
+    "append clear copy count endswith extend find get index insert isalnum isalpha isdigit islower isspace isupper "
+    "items join keys ljust lower lstrip partition pop remove replace reverse rfind rjust rpartition rsplit rstrip "
+    "setdefault split splitlines startswith strip update upper values zfill bit_length".split()
+)
+
 
 def bound_names(tree):
     """Every name that the file gives to something, with the node that does."""
@@ -135,6 +141,32 @@ class Language(unittest.TestCase):
             self.assertNotIsInstance(node.value, (float, complex), path)
             if isinstance(node.value, str):
                 self.assertNotIn("%", node.value, path)
+
+    def own_methods(self):
+        classes = [node for path, node in self.nodes(ast.ClassDef)]
+        return {node.name for one in classes for node in one.body if isinstance(node, ast.FunctionDef)}
+
+    def test_methods_are_own_ones_or_listed(self):
+        known = METHODS | self.own_methods()
+        for path, node in self.nodes(ast.Call):
+            if isinstance(node.func, ast.Attribute):
+                self.assertIn(node.func.attr, known, path)
+
+    def test_attributes_are_assigned_and_no_methods(self):
+        stored = {node.attr for path, node in self.nodes(ast.Attribute) if isinstance(node.ctx, ast.Store)}
+        self.assertEqual(stored & self.own_methods(), set())
+        self.assertEqual(stored & METHODS, set())
+        for path, node in self.nodes(ast.Attribute):
+            self.assertIn(node.attr, stored | METHODS | self.own_methods(), path)
+
+    def test_is_stands_beside_none_and_truths_alone(self):
+        for path, node in self.nodes(ast.Compare):
+            if any(isinstance(sign, (ast.Is, ast.IsNot)) for sign in node.ops):
+                self.assertIn([right.value for right in node.comparators], ([None], [True], [False]), path)
+
+    def test_escapes(self):
+        for path, text in self.texts.items():
+            self.assertIsNone(re.search(r"\\[^nt\\'\"]", text), path)
 
     def test_no_name_is_bound_twice_at_module_level(self):
         for path, tree in self.trees.items():

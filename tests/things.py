@@ -36,6 +36,10 @@ NO_SHEETS = OTHER_THINGS + [
     ((2,) * 11, ()), ((2, 2), ((0, 1, 5),)), (2, ()), (2, ((0, 1, 5),)),
 ]
 
+NO_WAYS = OTHER_THINGS + [
+    (0,), (5,), (2, 5), (2,) * 11, [2, 3], (2, True), (2, None), (2, "3"), ((2, 3),), (2, [3]), "23",
+]
+
 NO_WEBS = OTHER_THINGS + [
     (), (2,), (2, ((0, 1, 5),), ()), [2, ()], (2, [(0, 1, 5)]), (2, ([0, 1, 5],)), (11, ()), (-1, ()), (True, ()),
     (2, ((0, 1, 0),)), (2, ((0, 1, 100),)), (2, ((1, 0, 5),)), (2, ((0, 2, 5),)),
@@ -48,6 +52,11 @@ NO_BOARDS = [thing for thing in OTHER_THINGS if thing != ((),)] + [
     ((True,),), ((1, None),), (("1",),), ((1, 2), None), (1, 2), ((1, (2,)),), ((1, [2]),), ((BIG,),), ((-BIG,),),
     {0: (1, 2)}, "12",
 ]
+
+# All signs that texts have, and how a number and a part are written, as patterns.
+SIGNS = [chr(code) for code in range(32, 127) if chr(code) != "%"] + ["\t", "\n"]
+NUMBER = "(?:0|[1-9][0-9]{0,5})"
+PART = f"{NUMBER}:(?:{NUMBER}(?:,{NUMBER})*)?"
 
 
 def spots(thing, path=()):
@@ -89,6 +98,15 @@ def mean_of_all(numbers):
     return pair(Fraction(sum(numbers), len(numbers)))
 
 
+def with_one_sign_off(text):
+    """The text with one sign more, fewer or another one at each spot."""
+    for spot in range(len(text) + 1):
+        yield text[:spot] + text[spot + 1:]
+        for sign in SIGNS:
+            yield text[:spot] + sign + text[spot:]
+            yield text[:spot] + sign + text[spot + 1:]
+
+
 class Draw:
     """Numbers that look drawn but are the same on each run."""
 
@@ -122,6 +140,17 @@ def drawn_wish(draw, ways, most_parts=10):
 def drawn_sheet(draw, most_places=4, most_wishes=6):
     ways = tuple(draw.within(1, 4) for place in range(draw.within(0, most_places)))
     return (ways, tuple(drawn_wish(draw, ways) for wish in range(draw.within(0, most_wishes))))
+
+
+def great_sheet(seed):
+    """A sheet of ten places of four ways, with sixteen wishes."""
+    draw = Draw(seed)
+    ways = (4,) * 10
+    return (ways, tuple(drawn_wish(draw, ways) for wish in range(16)))
+
+
+def drawn_choosing(draw, ways):
+    return tuple(draw.below(many) for many in ways)
 
 
 def drawn_ties(draw, n, most_weight=99):
