@@ -1,8 +1,8 @@
 """Choosings by their means: the means along one, whether it never falls, one that does not, the best and the worst."""
 
 from meanchoice.errors import TooMany
-from meanchoice.fractions import is_less
-from meanchoice.means import begun_numbers, mean_by_numbers, product, rounded_by
+from meanchoice.fractions import is_less, product
+from meanchoice.means import begun_numbers, mean_by_numbers, rounded_by
 from meanchoice.sheets import need_choosing, need_sheet, weight_kept
 
 MOST_CHOOSINGS = 1024

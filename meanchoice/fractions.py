@@ -1,6 +1,14 @@
 """Fractions: tuples (a, b) of whole numbers in lowest terms, b from 1 on."""
 
 
+def product(numbers):
+    """All the numbers times one another; 1 of none."""
+    total = 1
+    for number in numbers:
+        total *= number
+    return total
+
+
 def common_divisor(a, b):
     """The greatest whole number that divides both, a and b not below 0."""
     while b > 0:

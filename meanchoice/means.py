@@ -3,16 +3,8 @@
 Within, numbers tell how often ways count: for each place of a sheet one number for each of its ways, as shares do.
 """
 
-from meanchoice.fractions import is_less, lowest, plus, times
+from meanchoice.fractions import is_less, lowest, plus, product, times
 from meanchoice.sheets import need_begun, need_sheet, need_wish_number
-
-
-def product(numbers):
-    """All the numbers times one another; 1 of none."""
-    total = 1
-    for number in numbers:
-        total *= number
-    return total
 
 
 def way_alone(many, way):

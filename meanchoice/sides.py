@@ -12,12 +12,17 @@ def need_sides(web, k, thing):
         raise NoSides("these are no sides of the web")
 
 
+def weight_parted(ties, sides):
+    """The sum of the weights of the ties whose ends have unlike sides, both known to be of one web."""
+    return sum([weight for i, j, weight in ties if sides[i] != sides[j]])
+
+
 def parted(web, k, sides):
     """The sum of the weights of the ties whose ends have unlike sides."""
     need_web(web)
     need_sides_number(k)
     need_sides(web, k, sides)
-    return sum([weight for i, j, weight in web[1] if sides[i] != sides[j]])
+    return weight_parted(web[1], sides)
 
 
 def parted_from(around, sides, side):

@@ -8,7 +8,8 @@ from meanchoice.apart import chosen_by, mean_of, order_by
 from meanchoice.errors import NoOrder, NoWeb
 from meanchoice.fractions import is_less
 from things import (
-    BIG, NO_WEBS, ODD_THINGS, OTHER_THINGS, Draw, Unchanged, drawn_ties, drawn_web, full_web, mean_of_all, pair,
+    BIG, NO_WEBS, ODD_THINGS, OTHER_THINGS, Draw, Unchanged, drawn_ties, drawn_web, full_web, great_webs, mean_of_all,
+    pair,
 )
 
 # A star around place 1, and place 4 apart.
@@ -61,11 +62,6 @@ def small_webs(seed, many=25, most_places=5):
     draw = Draw(seed)
     webs = [drawn_web(draw, most_places) for turn in range(many)]
     return webs + [WEB, ROW, NONE, (1, ()), (4, ())] + [full_web(n) for n in range(6)]
-
-
-def great_webs(seed):
-    draw = Draw(seed)
-    return [(10, drawn_ties(draw, 10)) for turn in range(4)] + [full_web(10, 99), (10, ())]
 
 
 class ChosenBy(Unchanged):

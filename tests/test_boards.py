@@ -1,75 +1,24 @@
 """What is a board, the squares of begun signs, the signs that are told, and rows that break a bound."""
 
-import itertools
 import unittest
 from fractions import Fraction
 
 from meanchoice.boards import breaks, is_board, signs_by, squares
 from meanchoice.errors import NoBoard, NoNumber, NoSigns
 from things import (
-    BIG, NO_BOARDS, ODD_THINGS, OTHER_THINGS, Draw, Unchanged, at_spot, mean_of_all, pair, spots, with_spot,
+    BIG, BOARD, NO_BOARDS, NO_BOUNDS, NO_SIGNS, ODD_THINGS, Draw, Unchanged, at_spot, begun_signs, broken_by,
+    columns_of, drawn_boards, great_boards, mean_of_all, pair, row_sums, signs_on, spots, with_spot,
 )
 
-# Noughts and ones stand at many spots, so truths would pass there for numbers.
-BOARD = ((1, 0, -2), (3, 1, 1), (0, -9, 9))
-
-NONE = ()
-
-NO_BOUNDS = ODD_THINGS + [0, 100, 101, -2, "2", (), (2,), [2], {2: 2}]
-
-# None of these is signs for BOARD, begun or whole.
-NO_SIGNS = [thing for thing in OTHER_THINGS if thing != (-1,)] + [
-    (0,), (2,), (-2,), (1, 0), (1, 1, 0), (1, -1, 2), (1, 1, 1, 1), (-1, -1, -1, -1), [1], [1, 1, 1], (1, True),
-    (False,), (True, 1, 1), (1, None), (1, "1"), (1, [1]), (1, (1,)), (1, {}), (BIG, 1), (1, -BIG),
-    "111", {0: 1}, ((1, 1, 1),),
-]
-
-
-def columns_of(board):
-    return len(board[0]) if board else 0
-
-
-def all_signs(board):
-    return list(itertools.product((1, -1), repeat=columns_of(board)))
-
-
-def goings_on(board, begun):
-    return [signs for signs in all_signs(board) if signs[:len(begun)] == begun]
-
-
-def begun_ones(board):
-    return sorted({signs[:many] for signs in all_signs(board) for many in range(len(signs) + 1)})
-
-
-def sums(board, signs):
-    return [sum(number * sign for number, sign in zip(row, signs)) for row in board]
+NO_ROWS = ()
 
 
 def squares_by(board, signs):
-    return sum(one * one for one in sums(board, signs))
-
-
-def broken_by(board, bound, signs):
-    return len([one for one in sums(board, signs) if one >= bound or -one >= bound])
+    return sum(one * one for one in row_sums(board, signs))
 
 
 def numbers_squared(board):
     return sum(number * number for row in board for number in row)
-
-
-def drawn_board(draw, rows, columns):
-    return tuple(tuple(draw.within(-9, 9) for column in range(columns)) for row in range(rows))
-
-
-def drawn_boards(seed, many=30, most_columns=5):
-    draw = Draw(seed)
-    boards = [drawn_board(draw, draw.within(0, 8), draw.within(0, most_columns)) for turn in range(many)]
-    return [BOARD, NONE, ((),), ((),) * 8, ((0, 0),), ((9, -9),) * 8] + boards
-
-
-def great_boards(seed):
-    draw = Draw(seed)
-    return [drawn_board(draw, 8, 10) for turn in range(4)] + [((9,) * 10,) * 8, ((0,) * 10,) * 8]
 
 
 class IsBoard(Unchanged):
@@ -144,14 +93,14 @@ class Squares(Unchanged):
         self.check(BOARD, (1, 1, -1), 342)
 
     def test_no_rows_no_numbers(self):
-        self.check(NONE, (), 0)
+        self.check(NO_ROWS, (), 0)
         self.check(((),), (), 0)
         self.check(((),) * 8, (), 0)
 
     def test_against_all_signs(self):
         for board in drawn_boards(93):
-            for begun in begun_ones(board):
-                ends = [squares_by(board, signs) for signs in goings_on(board, begun)]
+            for begun in begun_signs(board):
+                ends = [squares_by(board, signs) for signs in signs_on(board, begun)]
                 self.assertEqual(sum(ends) % len(ends), 0)
                 self.check(board, begun, sum(ends) // len(ends))
 
@@ -168,7 +117,7 @@ class Squares(Unchanged):
     def test_great_boards_of_all_signs(self):
         board = great_boards(98)[0]
         for begun in ((), (1,), (-1, 1, 1), (1, -1, 1, -1, 1, -1)):
-            wanted = mean_of_all(squares_by(board, signs) for signs in goings_on(board, begun))
+            wanted = mean_of_all(squares_by(board, signs) for signs in signs_on(board, begun))
             with self.within_short():
                 self.check(board, begun, wanted[0])
             self.assertEqual(wanted[1], 1)
@@ -188,7 +137,7 @@ class SignsBy(Unchanged):
         begun = ()
         for column in range(columns_of(board)):
             plus, minus = [
-                Fraction(*mean_of_all(squares_by(board, signs) for signs in goings_on(board, begun + (sign,))))
+                Fraction(*mean_of_all(squares_by(board, signs) for signs in signs_on(board, begun + (sign,))))
                 for sign in (1, -1)
             ]
             begun += (1 if plus <= minus else -1,)
@@ -209,7 +158,7 @@ class SignsBy(Unchanged):
         self.check(((1, 1), (1, -1), (0, 3)), (1, 1))
 
     def test_no_rows_no_numbers(self):
-        self.check(NONE, ())
+        self.check(NO_ROWS, ())
         self.check(((),), ())
         self.check(((),) * 8, ())
 
@@ -264,8 +213,8 @@ class Breaks(Unchanged):
 
     def test_bounds_at_the_edges(self):
         for board in drawn_boards(103):
-            for begun in begun_ones(board)[:8]:
-                ends = goings_on(board, begun)
+            for begun in begun_signs(board)[:8]:
+                ends = signs_on(board, begun)
                 self.check(board, 1, begun, mean_of_all(broken_by(board, 1, signs) for signs in ends))
                 self.check(board, 99, begun, (0, 1))
         self.check(((0, 0),), 1, (), (0, 1))
@@ -273,21 +222,21 @@ class Breaks(Unchanged):
 
     def test_no_rows_no_numbers(self):
         for bound in (1, 50, 99):
-            self.check(NONE, bound, (), (0, 1))
+            self.check(NO_ROWS, bound, (), (0, 1))
             self.check(((),), bound, (), (0, 1))
             self.check(((),) * 8, bound, (), (0, 1))
 
     def test_against_all_signs(self):
         for board in drawn_boards(104, 20):
-            for begun in begun_ones(board):
-                ends = goings_on(board, begun)
+            for begun in begun_signs(board):
+                ends = signs_on(board, begun)
                 for bound in (1, 2, 5, 9, 10, 18, 27):
                     self.check(board, bound, begun, mean_of_all(broken_by(board, bound, signs) for signs in ends))
 
     def test_great_boards(self):
         for board in great_boards(105):
             for begun in ((), (1, -1), (-1, 1, 1, -1, 1)):
-                ends = goings_on(board, begun)
+                ends = signs_on(board, begun)
                 for bound in (1, 8, 30):
                     wanted = mean_of_all(broken_by(board, bound, signs) for signs in ends)
                     with self.within_short():
@@ -301,13 +250,13 @@ class Breaks(Unchanged):
 
     def test_the_mean_is_that_of_those_one_sign_longer(self):
         for board in drawn_boards(107, 10):
-            for begun in begun_ones(board):
+            for begun in begun_signs(board):
                 if len(begun) < columns_of(board):
                     longer = [Fraction(*breaks(board, 4, begun + (sign,))) for sign in (1, -1)]
                     self.check(board, 4, begun, pair(sum(longer) / 2))
 
     def test_each_is_a_new_one(self):
-        self.assertIsNot(breaks(NONE, 1, ()), breaks(NONE, 1, ()))
+        self.assertIsNot(breaks(NO_ROWS, 1, ()), breaks(NO_ROWS, 1, ()))
 
 
 class OrderOfRefusals(Unchanged):
@@ -323,14 +272,14 @@ class OrderOfRefusals(Unchanged):
         for bound in NO_BOUNDS:
             for begun in [(), (1, -1, 1)] + NO_SIGNS:
                 self.refused(NoNumber, breaks, BOARD, bound, begun)
-            self.refused(NoNumber, breaks, NONE, bound, ())
+            self.refused(NoNumber, breaks, NO_ROWS, bound, ())
 
     def test_then_no_signs(self):
         for begun in NO_SIGNS:
             self.refused(NoSigns, squares, BOARD, begun)
             self.refused(NoSigns, breaks, BOARD, 1, begun)
             self.refused(NoSigns, breaks, BOARD, 99, begun)
-        for board in (NONE, ((),), ((),) * 8):
+        for board in (NO_ROWS, ((),), ((),) * 8):
             for begun in [(1,), (-1,), [], None]:
                 self.refused(NoSigns, squares, board, begun)
                 self.refused(NoSigns, breaks, board, 5, begun)

@@ -124,12 +124,6 @@ class Both(Unchanged):
         self.assertEqual(told_of(self.chooser), before)
 
 
-class TheClass(unittest.TestCase):
-    def test_its_methods_stand_in_it(self):
-        for name in ("put", "drop", "choose", "let", "sheet", "chosen", "mean", "means", "finish"):
-            self.assertIn(name, vars(Chooser))
-
-
 class Wishes(Both):
     def test_numbers_go_on_behind_dropped_ones(self):
         self.begin(WAYS)

@@ -8,7 +8,7 @@ from meanchoice.errors import NoNumber, NoSides, NoWeb
 from meanchoice.sheets import worth
 from meanchoice.sides import are_settled, parted, settled, sides_by
 from meanchoice.webs import sheet_of
-from things import BIG, NO_WEBS, ODD_THINGS, OTHER_THINGS, Draw, Unchanged, drawn_ties, drawn_web, full_web
+from things import BIG, NO_WEBS, ODD_THINGS, OTHER_THINGS, Draw, Unchanged, drawn_web, full_web, great_webs
 
 # A ring of four places and one tie across it.
 WEB = (4, ((0, 1, 3), (0, 3, 2), (1, 2, 5), (1, 3, 4), (2, 3, 7)))
@@ -72,11 +72,6 @@ def is_settled_by_all(web, k, sides):
 def drawn_webs(seed, many=40, most_places=6, most_weight=99):
     draw = Draw(seed)
     return [WEB, NONE, (1, ()), (10, ())] + [drawn_web(draw, most_places, most_weight) for turn in range(many)]
-
-
-def great_webs(seed):
-    draw = Draw(seed)
-    return [(10, drawn_ties(draw, 10)) for turn in range(4)] + [full_web(10), full_web(10, 99)]
 
 
 def drawn_sides(draw, n, k):

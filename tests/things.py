@@ -53,6 +53,24 @@ NO_BOARDS = [thing for thing in OTHER_THINGS if thing != ((),)] + [
     {0: (1, 2)}, "12",
 ]
 
+NO_BOOKS = OTHER_THINGS + [
+    (), (2,), (2, ((0, 1),), ()), [2, ()], (2, [(0, 1)]), (2, ([0, 1],)), (0, ()), (11, ()), (-1, ()), (True, ()),
+    (2, ((),)), (2, ((0,), ())), (2, ((1, 0),)), (2, ((0, 0),)), (2, ((2,),)), (2, ((-1,),)), (2, (0, 1)), (2, 0),
+    (2, ((0,),) * 17), ((2,), ()), (2, ((0, 1, 5),)), (2, (("0",),)), (2, ((True,),)), (2, {0: (0,)}), "20",
+]
+
+# Noughts and ones stand at many spots, so truths would pass there for numbers.
+BOARD = ((1, 0, -2), (3, 1, 1), (0, -9, 9))
+
+NO_BOUNDS = ODD_THINGS + [0, 100, 101, -2, "2", (), (2,), [2], {2: 2}]
+
+# None of these is signs for BOARD, begun or whole.
+NO_SIGNS = [thing for thing in OTHER_THINGS if thing != (-1,)] + [
+    (0,), (2,), (-2,), (1, 0), (1, 1, 0), (1, -1, 2), (1, 1, 1, 1), (-1, -1, -1, -1), [1], [1, 1, 1], (1, True),
+    (False,), (True, 1, 1), (1, None), (1, "1"), (1, [1]), (1, (1,)), (1, {}), (BIG, 1), (1, -BIG),
+    "111", {0: 1}, ((1, 1, 1),),
+]
+
 # All signs that texts have, and how a number and a part are written, as patterns.
 SIGNS = [chr(code) for code in range(32, 127) if chr(code) != "%"] + ["\t", "\n"]
 NUMBER = "(?:0|[1-9][0-9]{0,5})"
@@ -166,6 +184,70 @@ def drawn_web(draw, most_places=6, most_weight=99):
 def full_web(n, weight=1):
     """The web with all ties."""
     return (n, tuple((i, j, weight) for i, j in itertools.combinations(range(n), 2)))
+
+
+def great_webs(seed):
+    """Webs of ten places: some drawn ones, with all ties, without ties."""
+    draw = Draw(seed)
+    return [(10, drawn_ties(draw, 10)) for turn in range(4)] + [full_web(10), full_web(10, 99), (10, ())]
+
+
+def drawn_book(draw, most_places=4, most_sets=6):
+    n = draw.within(1, most_places)
+    sets = [draw.some(n) or (draw.below(n),) for one in range(draw.within(0, most_sets))]
+    return (n, tuple(sets))
+
+
+def great_books(seed):
+    """Books of ten places and sixteen sets: some drawn ones, of small sets, of one place each, of all places."""
+    draw = Draw(seed)
+    drawn = [(10, tuple(draw.some(10) or (0,) for one in range(16))) for turn in range(2)]
+    small = [(10, tuple(tuple(sorted({draw.below(10), draw.below(10)})) for one in range(16))) for turn in range(2)]
+    ones = (10, tuple((one % 10,) for one in range(16)))
+    return drawn + small + [ones, (10, (tuple(range(10)),) * 16)]
+
+
+def is_missed(one, draws):
+    return not set(one) & set(draws)
+
+
+def columns_of(board):
+    return len(board[0]) if board else 0
+
+
+def all_signs(board):
+    return list(itertools.product((1, -1), repeat=columns_of(board)))
+
+
+def signs_on(board, begun):
+    return [signs for signs in all_signs(board) if signs[:len(begun)] == begun]
+
+
+def begun_signs(board):
+    return sorted({signs[:many] for signs in all_signs(board) for many in range(len(signs) + 1)})
+
+
+def row_sums(board, signs):
+    return [sum(number * sign for number, sign in zip(row, signs)) for row in board]
+
+
+def broken_by(board, bound, signs):
+    return len([one for one in row_sums(board, signs) if one >= bound or -one >= bound])
+
+
+def drawn_board(draw, rows, columns):
+    return tuple(tuple(draw.within(-9, 9) for column in range(columns)) for row in range(rows))
+
+
+def drawn_boards(seed, many=30, most_columns=5):
+    draw = Draw(seed)
+    boards = [drawn_board(draw, draw.within(0, 8), draw.within(0, most_columns)) for turn in range(many)]
+    return [BOARD, (), ((),), ((),) * 8, ((0, 0),), ((9, -9),) * 8] + boards
+
+
+def great_boards(seed):
+    draw = Draw(seed)
+    return [drawn_board(draw, 8, 10) for turn in range(4)] + [((9,) * 10,) * 8, ((0,) * 10,) * 8]
 
 
 class Unchanged(unittest.TestCase):
